@@ -1,0 +1,1 @@
+"""Small programs of blocks, and what can be shown of them."""
