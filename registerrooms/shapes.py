@@ -168,6 +168,26 @@ def carried(blocks, edge):
     return [(variable, sources[place]) for variable, sources in joins]
 
 
+def defined_ahead(blocks, point):
+    """The list of the variables that a step to a point defines."""
+    block, done = point
+    if done > 0:
+        return list(defined_by(blocks[block][-2][done - 1]))
+    return [variable for variable, _ in joins_of(blocks, block)]
+
+
+def used_behind(blocks, point):
+    """The list of the variables that are used directly behind a point, also by joins on edges."""
+    block, done = point
+    rows, end = blocks[block][-2:]
+    if done < len(rows):
+        return list(used_by(rows[done]))
+    used = list(used_by_end(end))
+    for way in range(len(followers_of(blocks, block))):
+        used.extend([source for _, source in carried(blocks, (block, way))])
+    return used
+
+
 def reached(blocks, barred):
     """A dict from each block to which a road leads that is not over a barred one, to the block ahead of it there.
 

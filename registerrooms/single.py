@@ -3,8 +3,8 @@
 from registerrooms.errors import BadProgram, BadSingle
 from registerrooms.programs import MOST_HANDED, MOST_SPAN, Program
 from registerrooms.shapes import (
-    all_points, are_blocks, are_integers, carried, check_block, check_variable, defined_by, edges_of, followers_of,
-    is_integer, reached, used_by, used_by_end,
+    all_points, are_blocks, are_integers, check_block, check_variable, defined_ahead, edges_of, followers_of,
+    is_integer, reached, used_behind,
 )
 
 MOST_VARIABLES = 48
@@ -96,7 +96,7 @@ def wrong_part(many, handed, blocks, span):
     if not are_blocks(blocks, 3, MOST_ROWS, many, span):
         return "blocks"
     definitions = all_definitions(handed, blocks)
-    if sorted([variable for variable, point in definitions]) != list(range(many)):
+    if sorted([variable for variable, _ in definitions]) != list(range(many)):
         return "defined"
     if not are_joins_full(blocks) or not are_uses_behind(definitions, blocks):
         return "strict"
@@ -106,41 +106,24 @@ def wrong_part(many, handed, blocks, span):
 def all_definitions(handed, blocks):
     """The list of all pairs of a variable and the point of a definition of it."""
     found = [(variable, (0, 0)) for variable in handed]
-    for block, (joins, rows, _) in enumerate(blocks):
-        for variable, sources in joins:
-            found.append((variable, (block, 0)))
-        for done, row in enumerate(rows):
-            found.extend([(variable, (block, done + 1)) for variable in defined_by(row)])
-    return found
-
-
-def all_uses(blocks):
-    """The list of all pairs of a variable and a point directly behind which it is used."""
-    found = []
-    for block, (joins, rows, end) in enumerate(blocks):
-        for done, row in enumerate(rows):
-            found.extend([(variable, (block, done)) for variable in used_by(row)])
-        used = list(used_by_end(end))
-        for way in range(len(followers_of(blocks, block))):
-            used.extend([source for variable, source in carried(blocks, (block, way))])
-        found.extend([(variable, (block, len(rows))) for variable in used])
-    return found
+    return found + [(variable, point) for point in all_points(blocks) for variable in defined_ahead(blocks, point)]
 
 
 def are_joins_full(blocks):
     """Whether each join has a variable for each edge into its block, and there is one."""
     for block in range(len(blocks)):
         edges = len(edges_of(blocks, block))
-        if not all([edges > 0 and len(sources) == edges for variable, sources in blocks[block][0]]):
+        if not all([edges > 0 and len(sources) == edges for _, sources in blocks[block][0]]):
             return False
     return True
 
 
 def are_uses_behind(definitions, blocks):
     """Whether each use stands behind its definition, one for each variable, on all roads."""
-    points = {variable: point for variable, point in definitions}
+    places = {variable: point for variable, point in definitions}
     without = all_without(blocks)
-    return all([is_behind(points[variable], use, without) for variable, use in all_uses(blocks)])
+    uses = [(variable, point) for point in all_points(blocks) for variable in used_behind(blocks, point)]
+    return all([is_behind(places[variable], point, without) for variable, point in uses])
 
 
 def all_without(blocks):

@@ -1,10 +1,13 @@
 """Point [1], for errors."""
 
 from registerrooms import errors
+from registerrooms.alike import judge_both
 from registerrooms.errors import RoomError
 from registerrooms.programs import Program
+from registerrooms.roads import heads, is_live
+from registerrooms.runs import judge_runs, run, step
 from registerrooms.single import Single
-from tests.samples import LOOP, SINGLE, STOP, RoomTest
+from tests.samples import LOOP, NEVER, SINGLE, STOP, RoomTest, straight
 
 NAMES = (
     "BadProgram", "BadSingle", "BadBlock", "BadPoint", "BadVariable", "BadHanded", "BadInputs", "BadMost", "BadState",
@@ -31,6 +34,18 @@ class ErrorsTest(RoomTest):
 
     def test_raised_with_attributes(self):
         self.assertEqual(self.refused(errors.BadProgram, Program, 0, LOOP.blocks).part, "many")
+        self.assertIsNone(self.refused(errors.BadProgram, judge_runs, None).part)
         self.assertEqual(self.refused(errors.BadSingle, Single, 1, (), (((), (), STOP),)).part, "defined")
-        self.refused(errors.BadBlock, LOOP.rows, 3)
-        self.refused(errors.BadVariable, SINGLE.definition, 4)
+        self.refused(errors.BadBlock, heads, LOOP, 3)
+        self.refused(errors.BadPoint, is_live, LOOP, (3, 0), 0)
+        self.refused(errors.BadVariable, is_live, LOOP, (0, 0), 2)
+        self.refused(errors.BadHanded, run, LOOP, (0,), [])
+        self.assertEqual(self.refused(errors.BadInputs, run, LOOP, (), [0, 4]).index, 1)
+        self.refused(errors.BadMost, run, LOOP, (), [], most=0)
+        self.refused(errors.BadState, step, LOOP, (0, 0, (0,)))
+        self.refused(errors.Unlike, judge_both, LOOP, SINGLE)
+        self.refused(errors.TooLarge, judge_runs, straight([("tell", 0)] * 5, span=8, handed=3))
+
+    def test_refusing_changes_nothing(self):
+        self.refused(errors.BadMost, run, NEVER, (), [], most=0)
+        self.assertEqual(run(NEVER, (), [], most=1), [("silent", None)])

@@ -117,7 +117,8 @@ class SingleTest(RoomTest):
         for joins in (
                 None, True, 0, "joins", [], [(2, (0,))], {2: (0,)}, (2, (0,)), (None,), (True,), ("join",), ((2,),),
                 ((2, (0,), 0),), ([2, (0,)],), ((2, [0]),), ((2, 0),), ((2, None),), ((True, (0,)),), ((None, (0,)),),
-                (("2", (0,)),), ((2, (True,)),), ((2, (None,)),), ((2, ("0",)),), ((2, ((0,),)),), (("join", 2, (0,)),)):
+                (("2", (0,)),), ((2, (True,)),), ((2, (None,)),), ((2, ("0",)),), ((2, ((0,),)),),
+                (("join", 2, (0,)),)):
             self.wrong("blocks", 3, (0,), blocks(joins=joins))
         for block in (None, True, "block", (), ((), STOP), ((), (), (), STOP), [(), (), STOP], ((), STOP, ())):
             self.wrong("blocks", 3, (0,), blocks(block=block))
