@@ -22,17 +22,20 @@ class Stops:
         check_either(program)
         if not all([is_state(program, state) for state in self.heights]):
             return False
-        if not all([is_whole(height) and height >= 0 for height in self.heights.values()]):
+        if not all([is_whole(height) for height in self.heights.values()]):
             return False
         if not all([first_state(program, handed) in self.heights for handed in all_handed(program)]):
             return False
         return all([self.falls_from(program, state) for state in self.heights])
 
     def falls_from(self, program, state):
-        """Whether all states to which a step leads from a state have lesser heights."""
+        """Whether all states to which a step leads from a state have lesser heights, of at least 0.
+
+        Only of these is it asked: where no step leads to, from no state that has a height, any integer may stand.
+        """
         heights = self.heights
         behind = [some for _, some in steps_from(program, state)]
-        return all([some in heights and heights[some] < heights[state] for some in behind])
+        return all([some in heights and 0 <= heights[some] < heights[state] for some in behind])
 
 
 class Turns:

@@ -180,6 +180,31 @@ class StopsTest(RoomTest):
                     self.assertFalse(Stops({**heights, state: 1000}).shows(program), state)
             self.assertTrue(Stops({**heights, first: 1000}).shows(program))
 
+    def test_heights_below_0(self):
+        still = straight((), many=1)
+        for height in (1, 0, -1, -9):
+            self.assertIs(Stops({(0, 0, (0,)): height}).shows(still), True)
+        for height in (True, False):
+            self.assertIs(Stops({(0, 0, (0,)): height}).shows(still), False)
+        heights = self.heights(LOOP)
+        last, late = (2, 0, (0, 1)), (2, 0, (3, 3))
+        self.assertEqual((heights[last], late in heights), (0, False))
+        for height in (0, -1, -9):
+            self.assertIs(Stops({**heights, late: height}).shows(LOOP), True)
+            self.assertIs(Stops({**heights, last: height}).shows(LOOP), height == 0)
+        lower = {state: height - 1 for state, height in heights.items()}
+        self.assertFalse(Stops(lower).shows(LOOP))
+        # A state from which a step leads to one that has a height of 0 needs more than that, even if none leads to it.
+        ahead = (1, 2, (0, 3))
+        for height in (1, 0, -1):
+            self.assertIs(Stops({**heights, ahead: height, (2, 0, (0, 3)): 0}).shows(LOOP), height == 1)
+            self.assertIs(Stops({**heights, ahead: height, (2, 0, (0, 3)): height - 1}).shows(LOOP), height == 1)
+
+    def test_heights_below_0_in_single_programs(self):
+        still = Single(1, (0,), (((), (), STOP),), span=3)
+        self.assertTrue(Stops({(0, 0, (0,)): -1, (0, 0, (1,)): 4, (0, 0, (2,)): 0}).shows(still))
+        self.assertFalse(Stops({(0, 0, (0,)): -1, (0, 0, (1,)): 4}).shows(still))
+
     def test_heights_need_not_be_least(self):
         for program in (SHORT, LOOP, SINGLE):
             heights = {state: 3 * height + 5 for state, height in self.heights(program).items()}
