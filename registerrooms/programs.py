@@ -61,6 +61,12 @@ class Program:
         return all_points(self.blocks)
 
 
+def check_plain(program):
+    """Refuse what is no plain program."""
+    if not isinstance(program, Program):
+        raise BadProgram(None)
+
+
 def wrong_part(many, blocks, handed, span):
     """The first part that is not as in a plain program, None if all are."""
     if not is_integer(many, 1, MOST_VARIABLES + 1):

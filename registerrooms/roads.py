@@ -1,9 +1,8 @@
 """Which blocks head others, and which variables are live where."""
 
-from registerrooms.errors import BadPoint
 from registerrooms.shapes import (
-    all_points, are_integers, check_block, check_variable, defined_ahead, edges_of, followers_of, is_integer, is_point,
-    reached, road_to, used_behind,
+    all_points, are_integers, check_block, check_point, check_variable, defined_ahead, edges_of, followers_of,
+    is_integer, is_point, reached, road_to, used_behind,
 )
 from registerrooms.single import check_either
 
@@ -117,8 +116,7 @@ def live_sets(program):
 def is_live(program, point, variable):
     """Whether a variable is live at a point."""
     check_either(program)
-    if not is_point(program.blocks, point):
-        raise BadPoint("this is no point of the program")
+    check_point(program.blocks, point)
     check_variable(program.many, variable)
     return point in roads_to_uses(program.blocks, variable)
 
@@ -130,11 +128,16 @@ def check_blocks(program, one, other):
     check_block(program.blocks, other)
 
 
-def is_road(blocks, road):
-    """Whether something is a road from block 0."""
-    if not are_integers(road, 0, len(blocks)) or len(road) == 0 or road[0] != 0:
+def is_way(blocks, road):
+    """Whether something is a road, from whatever block."""
+    if not are_integers(road, 0, len(blocks)) or len(road) == 0:
         return False
     return all([behind in followers_of(blocks, block) for block, behind in zip(road, road[1:])])
+
+
+def is_road(blocks, road):
+    """Whether something is a road from block 0."""
+    return is_way(blocks, road) and road[0] == 0
 
 
 def points_behind(blocks, point):

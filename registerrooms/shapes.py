@@ -3,7 +3,7 @@
 Blocks are here those of a plain or of a single program: their last two parts are rows and an end.
 """
 
-from registerrooms.errors import BadBlock, BadVariable
+from registerrooms.errors import BadBlock, BadPoint, BadVariable
 
 MOST_BLOCKS = 16
 
@@ -25,6 +25,11 @@ def is_integer(thing, low, top):
 def are_integers(things, low, top):
     """Whether something is a tuple of integers from low on that are less than top."""
     return isinstance(things, tuple) and all([is_integer(thing, low, top) for thing in things])
+
+
+def is_ascending(things):
+    """Whether each item of a tuple is less than the next one."""
+    return all([one < other for one, other in zip(things, things[1:])])
 
 
 def is_row(row, many, span):
@@ -109,6 +114,12 @@ def check_block(blocks, block):
     """Refuse what is no block."""
     if not is_integer(block, 0, len(blocks)):
         raise BadBlock("this is no block of the program")
+
+
+def check_point(blocks, point):
+    """Refuse what is no point."""
+    if not is_point(blocks, point):
+        raise BadPoint("this is no point of the program")
 
 
 def check_variable(many, variable):

@@ -7,7 +7,7 @@ from registerrooms.shapes import (
     is_integer, reached, used_behind,
 )
 
-MOST_VARIABLES = 48
+MOST_SINGLE = 48
 MOST_ROWS = 24
 
 
@@ -79,6 +79,12 @@ class Single:
         return is_behind(self._definitions[variable], point, self._without)
 
 
+def check_single(single):
+    """Refuse what is no single program."""
+    if not isinstance(single, Single):
+        raise BadSingle(None)
+
+
 def check_either(program):
     """Refuse what is neither a plain nor a single program."""
     if not isinstance(program, Program) and not isinstance(program, Single):
@@ -87,7 +93,7 @@ def check_either(program):
 
 def wrong_part(many, handed, blocks, span):
     """The first part that is not as in a single program, None if all are."""
-    if not is_integer(many, 1, MOST_VARIABLES + 1):
+    if not is_integer(many, 1, MOST_SINGLE + 1):
         return "many"
     if not is_integer(span, 2, MOST_SPAN + 1):
         return "span"

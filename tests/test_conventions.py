@@ -7,7 +7,13 @@ from pathlib import Path
 
 from registerrooms.alike import Parted, Same, judge_both
 from registerrooms.folding import Folded, Tangled, fold
+from registerrooms.held import Coloured, colour
+from registerrooms.joins import Placed, place_joins
+from registerrooms.leaving import Leaving, Ringed, look_for_leaving
+from registerrooms.making import to_single
+from registerrooms.moves import Fewest, Stuck, in_row
 from registerrooms.programs import Program
+from registerrooms.rivals import Rivals
 from registerrooms.roads import Avoids, Heads, Live, judge_heads, lives
 from registerrooms.runs import Stops, Turns, judge_runs
 from registerrooms.single import Single
@@ -23,6 +29,11 @@ CLASSES = {
     "alike": {"Same": "__init__ __eq__ __iter__ shows", "Parted": "__init__ __eq__ shows"},
     "roads": {"Heads": "__init__ __eq__ shows", "Avoids": "__init__ __eq__ shows", "Live": "__init__ __eq__ shows"},
     "folding": {"Folded": "__init__ __eq__ shows", "Tangled": "__init__ __eq__ shows"},
+    "moves": {"Fewest": "__init__ __eq__ shows", "Stuck": "__init__ __eq__ shows"},
+    "joins": {"Placed": "__init__ __eq__ shows"},
+    "rivals": {"Rivals": "__init__ circle __len__ __contains__ __getitem__ __or__ __sub__ __invert__ __eq__"},
+    "leaving": {"Leaving": "__init__ __eq__ shows", "Ringed": "__init__ __eq__ shows"},
+    "held": {"Coloured": "__init__ __eq__ shows"},
 }
 FUNCTIONS = {
     "runs": {
@@ -34,12 +45,36 @@ FUNCTIONS = {
         "heads": "(program, block)", "head_of": "(program, block)", "judge_heads": "(program, one, other)",
         "live_sets": "(program)", "lives": "(program)", "is_live": "(program, point, variable)"},
     "folding": {"fold": "(program)", "is_foldable": "(program)", "what_is_left": "(program)"},
+    "moves": {
+        "in_row": "(many, copies, free)", "count_moves": "(many, copies, free)", "hold": "(many, moves)"},
+    "texts": {
+        "written": "(program)", "read": "(text)", "written_single": "(single)", "read_single": "(text)"},
+    "joins": {
+        "defining": "(program, variable)", "place_joins": "(program, variable)",
+        "is_enough": "(program, variable, blocks)", "by_frontiers": "(program, variable)",
+        "frontier": "(program, block)"},
+    "making": {"to_single": "(program)", "names_of": "(program)", "count_joins": "(program)"},
+    "leaving": {
+        "look_for_leaving": "(rivals)", "can_all_leave": "(rivals)", "count_leavings": "(rivals)",
+        "last_ones": "(rivals, order)"},
+    "held": {
+        "held_at": "(program, point)", "clashes": "(program)", "most_held": "(program)", "rivals_of": "(program)",
+        "colour": "(single)", "in_order": "(single)"},
 }
 SIGNATURES = {
     Program: "(many, blocks, *, handed=0, span=4)", Single: "(many, handed, blocks, *, span=4)", Stops: "(heights)",
     Turns: "(handed, ahead, ring)", Same: "(pairs)", Parted: "(handed, inputs)", Heads: "(closed)", Avoids: "(road)",
-    Live: "(sets, roads)", Folded: "(order)", Tangled: "(ring, roads)",
+    Live: "(sets, roads)", Folded: "(order)", Tangled: "(ring, roads)", Fewest: "(moves, levels)", Stuck: "(states)",
+    Placed: "(blocks, reaching, reasons)", Rivals: "(many, pairs=())", Rivals.circle: "(many)", Leaving: "(order)",
+    Ringed: "(ring)", Coloured: "(rooms, point)",
 }
+# Each paper, with what is asked for it, and what this is asked of.
+ASKED = (
+    (judge_runs, (LOOP,)), (judge_runs, (NEVER,)), (judge_both, (LOOP, LOOP)), (judge_both, (LOOP, NEVER)),
+    (judge_heads, (LOOP, 1, 2)), (judge_heads, (FORK, 1, 3)), (lives, (SINGLE,)), (fold, (LOOP,)), (fold, (RING,)),
+    (in_row, (3, {0: 1, 1: 0}, (2,))), (in_row, (2, {0: 1, 1: 0}, ())), (place_joins, (LOOP, 0)),
+    (look_for_leaving, (Rivals.circle(3),)), (look_for_leaving, (Rivals.circle(5),)), (colour, (SINGLE,)),
+)
 
 
 class InterfaceTest(RoomTest):
@@ -97,13 +132,11 @@ class EqualityTest(RoomTest):
     def test_different_classes(self):
         self.all_different(
             Program(1, (((), STOP),)), Single(1, (0,), (((), (), STOP),)), Stops({}), Turns((), [], []), Same([]),
-            Parted((), []), Heads([]), Avoids(()), Live({}, {}), Folded([]), Tangled((), {}))
+            Parted((), []), Heads([]), Avoids(()), Live({}, {}), Folded([]), Tangled((), {}), Fewest([], {}), Stuck([]),
+            Placed((), {}, []), Rivals(1), Leaving(()), Ringed(()), Coloured((), (0, 0)))
 
     def test_what_is_returned_twice(self):
-        for ask, arguments in (
-                (judge_runs, (LOOP,)), (judge_runs, (NEVER,)), (judge_both, (LOOP, LOOP)), (judge_both, (LOOP, NEVER)),
-                (judge_heads, (LOOP, 1, 2)), (judge_heads, (FORK, 1, 3)), (lives, (SINGLE,)), (fold, (LOOP,)),
-                (fold, (RING,))):
+        for ask, arguments in ASKED:
             one, other = ask(*arguments), ask(*arguments)
             self.assertEqual(one, other)
             self.assertIsNot(one, other)
@@ -114,7 +147,8 @@ class EqualityTest(RoomTest):
     def test_copies(self):
         for made, lists in (
                 (Stops, [{}]), (Turns, [(), [1], [1]]), (Same, [[]]), (Parted, [(), [1]]), (Heads, [[]]),
-                (Live, [{}, {}]), (Folded, [[]]), (Tangled, [(), {}])):
+                (Live, [{}, {}]), (Folded, [[]]), (Tangled, [(), {}]), (Fewest, [[], {}]), (Stuck, [[]]),
+                (Placed, [(), {}, []])):
             for given, kept in zip(lists, vars(made(*lists)).values()):
                 self.assertEqual(kept, given)
                 if isinstance(given, (list, dict)):
@@ -130,14 +164,14 @@ class UnchangedTest(RoomTest):
                 self.assertTrue(ask(program).shows(program))
             judge_both(program, program)
             judge_heads(program, 0, 0)
+            colour(single)
+            to_single(plain)
+            place_joins(plain, 0)
             self.assertEqual((program.many, program.handed, program.blocks, program.span), before)
 
     def test_papers_are_not_changed_by_showing(self):
-        for paper, arguments in (
-                (judge_runs(LOOP), (LOOP,)), (judge_runs(NEVER), (NEVER,)), (judge_both(LOOP, LOOP), (LOOP, LOOP)),
-                (judge_both(LOOP, NEVER), (LOOP, NEVER)), (judge_heads(LOOP, 1, 2), (LOOP, 1, 2)),
-                (judge_heads(FORK, 1, 3), (FORK, 1, 3)), (lives(SINGLE), (SINGLE,)), (fold(LOOP), (LOOP,)),
-                (fold(RING), (RING,))):
+        for ask, arguments in ASKED:
+            paper = ask(*arguments)
             before = repr(vars(paper))
             self.assertIs(paper.shows(*arguments), True)
             self.assertIs(paper.shows(*arguments), True)
