@@ -90,7 +90,7 @@ def check_lines(lines, first, most):
     for row in range(len(lines)):
         if not can_stand(lines, row, first, most):
             raise BadText(row)
-    if len(lines) <= HEAD or lines[-1][0] not in ENDS:
+    if lines[-1][0] not in ENDS:
         raise BadText(len(lines))
 
 

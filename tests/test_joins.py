@@ -263,12 +263,11 @@ class PlacedTest(RoomTest):
         self.assertFalse(self.shown(fork, (3, 4), {1: 0, 2: 0}, [(3, (1, 3), (2, 3)), (4, (3, 4), (1, 3, 4))]))
 
     def test_a_reason_at_whose_beginning_its_block_is(self):
-        for road in ((1, 1),):
-            self.assertTrue(self.shown(SELF, (1,), {2: 1}, [(1, road, (0, 1))]))
-            self.assertTrue(self.shown(SELF, (1,), {2: 1}, [(1, (0, 1), road)]))
-            self.assertFalse(self.shown(SELF, (1,), {2: 1}, [(1, road, road)]))
-            self.assertFalse(self.shown(SELF, (1,), {2: 1}, [(1, (1, 1, 1), (0, 1))]))
-            self.assertFalse(self.shown(SELF, (1,), {2: 1}, [(1, (0, 1, 1), road)]))
+        for reason, answer in (
+                ((1, (1, 1), (0, 1)), True), ((1, (0, 1), (1, 1)), True), ((1, (1, 1), (1, 1)), False),
+                ((1, (1, 1, 1), (0, 1)), False), ((1, (0, 1, 1), (1, 1)), False), ((1, (1,), (0, 1)), False),
+                ((1, (0, 1), (1,)), False)):
+            self.assertIs(self.shown(SELF, (1,), {2: 1}, [reason]), answer, reason)
         # A block with a join is no source for its own reason.
         still = Program(1, (((), ("go", 1)), ((), ("part", 0, 1, 2)), ((), STOP)))
         self.assertFalse(self.shown(still, (1,), {2: 1}, [(1, (0, 1), (1, 1))]))
@@ -285,6 +284,9 @@ class PlacedTest(RoomTest):
         self.assertFalse(self.shown(LEANS, (3, 5), reaching, [first, (5, (1, 3, 5), (0, 4, 5))]))
         self.assertFalse(self.shown(LEANS, (3, 5), reaching, [first, (5, (3, 5), (4, 5))]))
         self.assertFalse(self.shown(LEANS, (3, 5), reaching, [first, (5, (3, 5), (0, 1, 3, 5))]))
+        self.assertFalse(self.shown(LEANS, (3, 5), reaching, [first, (5, (0, 4), (2, 3))]))
+        self.assertFalse(self.shown(LEANS, (3, 5), reaching, [first, (5, (0, 4), (3, 5))]))
+        self.assertFalse(self.shown(LEANS, (3, 5), reaching, [first, (5, (3, 5), (0, 4))]))
         self.assertFalse(self.shown(LEANS, (3,), {**reaching, 5: 3}, [first]))
 
     def test_roads_may_turn_round(self):

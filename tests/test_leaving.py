@@ -159,6 +159,7 @@ class PapersTest(RoomTest):
             self.assertIs(Ringed(ring).shows(Rivals.circle(many) | Rivals(many, ((0, 2),))), False)
             self.assertIs(Ringed(ring).shows(Rivals.circle(many) - Rivals(many, ((0, 1),))), False)
             self.assertIs(Ringed(ring[:-1]).shows(Rivals.circle(many)), False)
+            self.assertIs(Ringed(ring + ring).shows(Rivals.circle(many)), False)
         self.assertIs(Ringed((0, 1, 2)).shows(Rivals.circle(3)), False)
         for ring in ((0, True, 2, 3), (False, 1, 2, 3), (0, 1, 2, 4), (0, 1, 2, -1), (0, 1, 2, 3, 0), (0, 1, 2, 3, 4)):
             self.assertIs(Ringed(ring).shows(Rivals.circle(4)), False, ring)

@@ -213,6 +213,8 @@ class FewestTest(RoomTest):
 
     def test_levels(self):
         self.assertFalse(self.shown(self.moves, {}))
+        self.assertFalse(self.shown([(0, 1)], {}, many=2, copies={0: 1}))
+        self.assertFalse(self.shown([(0, 1)], {(1, 0): 1}, many=2, copies={0: 1}))
         self.assertFalse(self.shown(self.moves, {held: level for held, level in self.levels.items() if level < 3}))
         for level in range(-2, 3):
             self.assertFalse(self.shown(self.moves, {**self.levels, (0, 1, 2): level}))
