@@ -29,7 +29,7 @@ class Rivals:
         return isinstance(other, Rivals) and self.many == other.many and self.pairs == other.pairs
 
     def __len__(self):
-        return len(range(self.many))
+        return len(list(range(self.many)))
 
     def __iter__(self):
         raise TypeError("rivals are not iterated over")
@@ -51,7 +51,8 @@ class Rivals:
         return Rivals(self.many, tuple([pair for pair in self.pairs if pair not in other.pairs]))
 
     def __invert__(self):
-        return Rivals(self.many, tuple([pair for pair in all_pairs(self.many) if pair not in self.pairs]))
+        pairs = [(one, other) for one in range(self.many) for other in range(one + 1, self.many)]
+        return Rivals(self.many, tuple([pair for pair in pairs if pair not in self.pairs]))
 
 
 def check_rivals(rivals):
@@ -74,8 +75,3 @@ def is_pair(many, pair):
 def are_pairs(many, pairs):
     """Whether something is an ascending tuple of ascending pairs of variables."""
     return isinstance(pairs, tuple) and all([is_pair(many, pair) for pair in pairs]) and is_ascending(pairs)
-
-
-def all_pairs(many):
-    """The ascending list of all ascending pairs of variables."""
-    return [(one, other) for one in range(many) for other in range(one + 1, many)]

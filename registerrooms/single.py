@@ -15,7 +15,7 @@ class Single:
     """A single program."""
 
     def __init__(self, many, handed, blocks, *, span=4):
-        part = wrong_part(many, handed, blocks, span)
+        part = wrong_single_part(many, handed, blocks, span)
         if part is not None:
             raise BadSingle(part)
         self.many = many
@@ -91,7 +91,7 @@ def check_either(program):
         raise BadProgram(None)
 
 
-def wrong_part(many, handed, blocks, span):
+def wrong_single_part(many, handed, blocks, span):
     """The first part that is not as in a single program, None if all are."""
     if not is_integer(many, 1, MOST_SINGLE + 1):
         return "many"

@@ -115,6 +115,18 @@ class FilesTest(RoomTest):
                 if isinstance(node, ast.FunctionDef):
                     self.assertLessEqual(node.end_lineno - node.lineno, 39, (path, node.name))
 
+    def test_each_function_has_a_name_of_its_own(self):
+        found = {}
+        for path in sorted(PACKAGE.glob("*.py")):
+            for node in ast.parse(path.read_text()).body:
+                if isinstance(node, (ast.FunctionDef, ast.ClassDef)):
+                    self.assertNotIn(node.name, found, path)
+                    found[node.name] = path
+
+    def test_no_length_of_a_range(self):
+        for path in PACKAGE.glob("*.py"):
+            self.assertNotIn("return len(range(", path.read_text(), path)
+
     def test_imports(self):
         for path in PACKAGE.glob("*.py"):
             for node in ast.walk(ast.parse(path.read_text())):
