@@ -3,7 +3,7 @@
 Blocks are here those of a plain or of a single program: their last two parts are rows and an end.
 """
 
-from registerrooms.errors import BadBlock, BadPoint, BadVariable
+from registerrooms.errors import BadBlock, BadLimit, BadPoint, BadVariable
 
 MOST_BLOCKS = 16
 
@@ -126,6 +126,12 @@ def check_variable(many, variable):
     """Refuse what is none of so many variables."""
     if not is_integer(variable, 0, many):
         raise BadVariable("this is no variable")
+
+
+def check_limit(limit, low, most):
+    """Refuse what is no integer from low to most."""
+    if not is_integer(limit, low, most + 1):
+        raise BadLimit("this is no limit")
 
 
 def defined_by(row):

@@ -6,6 +6,7 @@ import inspect
 from pathlib import Path
 
 from registerrooms.alike import Parted, Same, judge_both
+from registerrooms.counting import partings, polynomial, ways
 from registerrooms.folding import Folded, Tangled, fold
 from registerrooms.held import Coloured, colour
 from registerrooms.joins import Placed, place_joins
@@ -15,8 +16,11 @@ from registerrooms.moves import Fewest, Stuck, in_row
 from registerrooms.programs import Program
 from registerrooms.rivals import Rivals
 from registerrooms.roads import Avoids, Heads, Live, judge_heads, lives
+from registerrooms.rooms import Roomed, fewest, free_pairs, greatest_crowd, refused
 from registerrooms.runs import Stops, Turns, judge_runs
+from registerrooms.sharing import NoRoom, Shared, share
 from registerrooms.single import Single
+from registerrooms.spilling import Loads, fewest_loads, furthest, loads
 from tests.samples import FORK, LOOP, NEVER, RING, SINGLE, STOP, RoomTest, straight
 
 LIBRARY = ("heapq", "math", "itertools", "collections")
@@ -34,6 +38,9 @@ CLASSES = {
     "rivals": {"Rivals": "__init__ circle __len__ __contains__ __getitem__ __or__ __sub__ __invert__ __eq__"},
     "leaving": {"Leaving": "__init__ __eq__ shows", "Ringed": "__init__ __eq__ shows"},
     "held": {"Coloured": "__init__ __eq__ shows"},
+    "rooms": {"Roomed": "__init__ __eq__ shows"},
+    "sharing": {"Shared": "__init__ __eq__ shows", "NoRoom": "__init__ __eq__ shows"},
+    "spilling": {"Loads": "__init__ __eq__ shows"},
 }
 FUNCTIONS = {
     "runs": {
@@ -60,13 +67,22 @@ FUNCTIONS = {
     "held": {
         "held_at": "(program, point)", "clashes": "(program)", "most_held": "(program)", "rivals_of": "(program)",
         "colour": "(single)", "in_order": "(single)"},
+    "rooms": {
+        "fewest": "(rivals)", "fewest_rooms": "(rivals)", "greatest_crowd": "(rivals)", "free_pairs": "(rivals)",
+        "refused": "(rivals, limit)", "refuses": "(rivals, limit, tree)"},
+    "counting": {"partings": "(rivals)", "polynomial": "(rivals)", "ways": "(rivals, limit)"},
+    "sharing": {"share": "(rivals, worths, limit)", "greatest_worth": "(rivals, worths, limit)"},
+    "spilling": {
+        "fewest_loads": "(row, limit)", "number_of_loads": "(row, limit)", "furthest": "(row, limit)",
+        "loads": "(row, limit, keeping)"},
 }
 SIGNATURES = {
     Program: "(many, blocks, *, handed=0, span=4)", Single: "(many, handed, blocks, *, span=4)", Stops: "(heights)",
     Turns: "(handed, ahead, ring)", Same: "(pairs)", Parted: "(handed, inputs)", Heads: "(closed)", Avoids: "(road)",
     Live: "(sets, roads)", Folded: "(order)", Tangled: "(ring, roads)", Fewest: "(moves, levels)", Stuck: "(states)",
     Placed: "(blocks, reaching, reasons)", Rivals: "(many, pairs=())", Rivals.circle: "(many)", Leaving: "(order)",
-    Ringed: "(ring)", Coloured: "(rooms, point)",
+    Ringed: "(ring)", Coloured: "(rooms, point)", Roomed: "(rooms, tree)", Shared: "(lot, rooms, against)",
+    NoRoom: "(tree)", Loads: "(number, keeping, floors)",
 }
 # Each paper, with what is asked for it, and what this is asked of.
 ASKED = (
@@ -74,6 +90,8 @@ ASKED = (
     (judge_heads, (LOOP, 1, 2)), (judge_heads, (FORK, 1, 3)), (lives, (SINGLE,)), (fold, (LOOP,)), (fold, (RING,)),
     (in_row, (3, {0: 1, 1: 0}, (2,))), (in_row, (2, {0: 1, 1: 0}, ())), (place_joins, (LOOP, 0)),
     (look_for_leaving, (Rivals.circle(3),)), (look_for_leaving, (Rivals.circle(5),)), (colour, (SINGLE,)),
+    (fewest, (Rivals.circle(5),)), (share, (Rivals.circle(4), {(0, 1): 2, (0, 2): 1}, 2)),
+    (share, (Rivals.circle(4), {(0, 2): 1}, 1)), (fewest_loads, ([("use", 0), ("use", 1), ("use", 0)], 1)),
 )
 
 
@@ -145,7 +163,8 @@ class EqualityTest(RoomTest):
         self.all_different(
             Program(1, (((), STOP),)), Single(1, (0,), (((), (), STOP),)), Stops({}), Turns((), [], []), Same([]),
             Parted((), []), Heads([]), Avoids(()), Live({}, {}), Folded([]), Tangled((), {}), Fewest([], {}), Stuck([]),
-            Placed((), {}, []), Rivals(1), Leaving(()), Ringed(()), Coloured((), (0, 0)))
+            Placed((), {}, []), Rivals(1), Leaving(()), Ringed(()), Coloured((), (0, 0)), Roomed((), ()),
+            Shared((), (), {}), NoRoom(()), Loads(0, [], {}))
 
     def test_what_is_returned_twice(self):
         for ask, arguments in ASKED:
@@ -160,7 +179,7 @@ class EqualityTest(RoomTest):
         for made, lists in (
                 (Stops, [{}]), (Turns, [(), [1], [1]]), (Same, [[]]), (Parted, [(), [1]]), (Heads, [[]]),
                 (Live, [{}, {}]), (Folded, [[]]), (Tangled, [(), {}]), (Fewest, [[], {}]), (Stuck, [[]]),
-                (Placed, [(), {}, []])):
+                (Placed, [(), {}, []]), (Shared, [(), (), {}]), (Loads, [0, [(0,)], {(0, ()): 0}])):
             for given, kept in zip(lists, vars(made(*lists)).values()):
                 self.assertEqual(kept, given)
                 if isinstance(given, (list, dict)):
@@ -180,6 +199,21 @@ class UnchangedTest(RoomTest):
             to_single(plain)
             place_joins(plain, 0)
             self.assertEqual((program.many, program.handed, program.blocks, program.span), before)
+
+    def test_rivals_are_not_changed(self):
+        for rivals in (Rivals(3), Rivals.circle(5), ~Rivals(4)):
+            before = (rivals.many, rivals.pairs)
+            worths, row = {(1, 2): 1, (0, 1): 2}, [("use", 0), ("use", 1), ("use", 2), ("define", 0)]
+            keeping = furthest(row, 2)
+            for ask in (fewest, free_pairs, greatest_crowd, partings, polynomial, look_for_leaving):
+                ask(rivals)
+            refused(rivals, 2)
+            ways(rivals, 2)
+            share(rivals, worths, 3)
+            loads(row, 2, keeping)
+            self.assertEqual((rivals.many, rivals.pairs), before)
+            self.assertEqual((list(worths.items()), keeping), ([((1, 2), 1), ((0, 1), 2)], furthest(row, 2)))
+            self.assertEqual(row, [("use", 0), ("use", 1), ("use", 2), ("define", 0)])
 
     def test_papers_are_not_changed_by_showing(self):
         for ask, arguments in ASKED:
