@@ -5,23 +5,29 @@ import importlib
 import inspect
 from pathlib import Path
 
-from registerrooms.alike import Parted, Same, judge_both
+from registerrooms.alike import Parted, Same, judge_both, tell_alike
+from registerrooms.back import has_spare, rebuilt, to_plain
 from registerrooms.counting import partings, polynomial, ways
-from registerrooms.folding import Folded, Tangled, fold
-from registerrooms.held import Coloured, colour
-from registerrooms.joins import Placed, place_joins
-from registerrooms.leaving import Leaving, Ringed, look_for_leaving
-from registerrooms.making import to_single
+from registerrooms.desks import Desk
+from registerrooms.errors import BadProgram, BadRivals, BadSingle
+from registerrooms.folding import Folded, Tangled, fold, is_foldable, what_is_left
+from registerrooms.governing import Free, Governs, by_chains, governors, judge_edge, nearest, sure
+from registerrooms.held import Coloured, clashes, colour, held_at, in_order, most_held, rivals_of
+from registerrooms.joins import Placed, by_frontiers, defining, frontier, is_enough, place_joins
+from registerrooms.leaving import Leaving, Ringed, can_all_leave, count_leavings, last_ones, look_for_leaving
+from registerrooms.making import count_joins, names_of, to_single
 from registerrooms.moves import Fewest, Stuck, in_row
+from registerrooms.numbering import Numbered, are_one, number_all, root
 from registerrooms.programs import Program
 from registerrooms.rivals import Rivals
-from registerrooms.roads import Avoids, Heads, Live, judge_heads, lives
-from registerrooms.rooms import Roomed, fewest, free_pairs, greatest_crowd, refused
-from registerrooms.runs import Stops, Turns, judge_runs
-from registerrooms.sharing import NoRoom, Shared, share
+from registerrooms.roads import Avoids, Heads, Live, head_of, heads, is_live, judge_heads, live_sets, lives
+from registerrooms.rooms import Roomed, fewest, fewest_rooms, free_pairs, greatest_crowd, refused, refuses
+from registerrooms.runs import Stops, Turns, does_stop, judge_runs, most_steps, run, step, telling
+from registerrooms.sharing import NoRoom, Shared, greatest_worth, share
 from registerrooms.single import Single
 from registerrooms.spilling import Loads, fewest_loads, furthest, loads
-from tests.samples import FORK, LOOP, NEVER, RING, SINGLE, STOP, RoomTest, straight
+from registerrooms.texts import written, written_single
+from tests.samples import FORK, LOOP, NEVER, NO_PROGRAMS, RING, SINGLE, STOP, RoomTest, straight
 
 LIBRARY = ("heapq", "math", "itertools", "collections")
 PACKAGE = Path(__file__).resolve().parent.parent / "registerrooms"
@@ -41,6 +47,10 @@ CLASSES = {
     "rooms": {"Roomed": "__init__ __eq__ shows"},
     "sharing": {"Shared": "__init__ __eq__ shows", "NoRoom": "__init__ __eq__ shows"},
     "spilling": {"Loads": "__init__ __eq__ shows"},
+    "governing": {"Governs": "__init__ __eq__ shows", "Free": "__init__ __eq__ shows"},
+    "numbering": {"Numbered": "__init__ __eq__ shows"},
+    "desks": {
+        "Desk": "__init__ now journal __len__ put_row take_row turn_end undo branch trial attempt rooms_now is_as_begun"},
 }
 FUNCTIONS = {
     "runs": {
@@ -75,6 +85,11 @@ FUNCTIONS = {
     "spilling": {
         "fewest_loads": "(row, limit)", "number_of_loads": "(row, limit)", "furthest": "(row, limit)",
         "loads": "(row, limit, keeping)"},
+    "governing": {
+        "sure": "(program, block)", "nearest": "(program, block)", "governors": "(program, block)",
+        "judge_edge": "(program, edge, block)", "by_chains": "(program)"},
+    "numbering": {"number_all": "(single)", "are_one": "(single, one, other)", "root": "(single, one)"},
+    "back": {"to_plain": "(single, rooms)", "has_spare": "(single, rooms)", "rebuilt": "(program)"},
 }
 SIGNATURES = {
     Program: "(many, blocks, *, handed=0, span=4)", Single: "(many, handed, blocks, *, span=4)", Stops: "(heights)",
@@ -82,7 +97,10 @@ SIGNATURES = {
     Live: "(sets, roads)", Folded: "(order)", Tangled: "(ring, roads)", Fewest: "(moves, levels)", Stuck: "(states)",
     Placed: "(blocks, reaching, reasons)", Rivals: "(many, pairs=())", Rivals.circle: "(many)", Leaving: "(order)",
     Ringed: "(ring)", Coloured: "(rooms, point)", Roomed: "(rooms, tree)", Shared: "(lot, rooms, against)",
-    NoRoom: "(tree)", Loads: "(number, keeping, floors)",
+    NoRoom: "(tree)", Loads: "(number, keeping, floors)", Governs: "(closed, road)", Free: "(road, closed)",
+    Numbered: "(classes, ranks)", Desk: "(program)", Desk.put_row: "(self, block, at, row)",
+    Desk.take_row: "(self, block, at)", Desk.turn_end: "(self, block, end)", Desk.undo: "(self)", Desk.branch: "(self)",
+    Desk.trial: "(self)", Desk.attempt: "(self, work)", Desk.rooms_now: "(self)", Desk.is_as_begun: "(self)",
 }
 # Each paper, with what is asked for it, and what this is asked of.
 ASKED = (
@@ -92,7 +110,29 @@ ASKED = (
     (look_for_leaving, (Rivals.circle(3),)), (look_for_leaving, (Rivals.circle(5),)), (colour, (SINGLE,)),
     (fewest, (Rivals.circle(5),)), (share, (Rivals.circle(4), {(0, 1): 2, (0, 2): 1}, 2)),
     (share, (Rivals.circle(4), {(0, 2): 1}, 1)), (fewest_loads, ([("use", 0), ("use", 1), ("use", 0)], 1)),
+    (judge_edge, (LOOP, (1, 0), 1)), (judge_edge, (FORK, (0, 0), 2)), (judge_edge, (FORK, (1, 0), 3)),
+    (number_all, (SINGLE,)),
 )
+# All that is asked of a program or rivals, with arguments behind them that are none, either.
+OF_EITHER = (
+    (run, None, None), (lambda *some: list(telling(*some)), None, None), (step, None), (judge_runs,), (does_stop,),
+    (most_steps,), (judge_both, None), (tell_alike, None), (heads, None), (head_of, None), (judge_heads, None, None),
+    (live_sets,), (lives,), (is_live, None, None), (fold,), (is_foldable,), (what_is_left,), (held_at, None), (clashes,),
+    (most_held,), (sure, None), (nearest, None), (governors, None), (judge_edge, None, None), (by_chains,),
+    (Stops({}).shows,), (Turns((), [], []).shows,), (Same([]).shows, None), (Parted((), []).shows, None),
+    (Heads([]).shows, None, None), (Avoids(()).shows, None, None), (Live({}, {}).shows,), (Folded([]).shows,),
+    (Tangled((), {}).shows,), (Governs((), None).shows, None, None), (Free(None, ()).shows, None, None))
+OF_PLAIN = (
+    (written,), (defining, None), (place_joins, None), (is_enough, None, None), (by_frontiers, None), (frontier, None),
+    (to_single,), (names_of,), (count_joins,), (rivals_of,), (rebuilt,), (Desk,), (Placed((), {}, []).shows, None))
+OF_SINGLE = (
+    (written_single,), (colour,), (in_order,), (number_all,), (are_one, None, None), (root, None), (to_plain, None),
+    (has_spare, None), (Coloured((), ()).shows,), (Numbered([], {}).shows,))
+OF_RIVALS = (
+    (look_for_leaving,), (can_all_leave,), (count_leavings,), (last_ones, None), (fewest,), (fewest_rooms,),
+    (greatest_crowd,), (free_pairs,), (refused, None), (refuses, None, ()), (partings,), (polynomial,), (ways, None),
+    (share, None, None), (greatest_worth, None, None), (Leaving(()).shows,), (Ringed(()).shows,), (Roomed((), ()).shows,),
+    (Shared((), (), {}).shows, None, None), (NoRoom(()).shows, None, None))
 
 
 class InterfaceTest(RoomTest):
@@ -164,7 +204,7 @@ class EqualityTest(RoomTest):
             Program(1, (((), STOP),)), Single(1, (0,), (((), (), STOP),)), Stops({}), Turns((), [], []), Same([]),
             Parted((), []), Heads([]), Avoids(()), Live({}, {}), Folded([]), Tangled((), {}), Fewest([], {}), Stuck([]),
             Placed((), {}, []), Rivals(1), Leaving(()), Ringed(()), Coloured((), (0, 0)), Roomed((), ()),
-            Shared((), (), {}), NoRoom(()), Loads(0, [], {}))
+            Shared((), (), {}), NoRoom(()), Loads(0, [], {}), Governs((), None), Free((), None), Numbered([], {}))
 
     def test_what_is_returned_twice(self):
         for ask, arguments in ASKED:
@@ -179,11 +219,33 @@ class EqualityTest(RoomTest):
         for made, lists in (
                 (Stops, [{}]), (Turns, [(), [1], [1]]), (Same, [[]]), (Parted, [(), [1]]), (Heads, [[]]),
                 (Live, [{}, {}]), (Folded, [[]]), (Tangled, [(), {}]), (Fewest, [[], {}]), (Stuck, [[]]),
-                (Placed, [(), {}, []]), (Shared, [(), (), {}]), (Loads, [0, [(0,)], {(0, ()): 0}])):
+                (Placed, [(), {}, []]), (Shared, [(), (), {}]), (Loads, [0, [(0,)], {(0, ()): 0}]),
+                (Numbered, [[(0,)], {}])):
             for given, kept in zip(lists, vars(made(*lists)).values()):
                 self.assertEqual(kept, given)
                 if isinstance(given, (list, dict)):
                     self.assertIsNot(kept, given, made)
+
+
+class RefusedTest(RoomTest):
+    def ask(self, asks, error, things):
+        """Ask that these are refused wherever they are asked for."""
+        for ask, *more in asks:
+            for thing in things:
+                self.assertIsNone(self.refused(error, ask, thing, *more).part, ask)
+
+    def test_no_programs(self):
+        self.ask(OF_EITHER, BadProgram, (*NO_PROGRAMS, Rivals(2)))
+        self.ask(OF_PLAIN, BadProgram, (*NO_PROGRAMS, SINGLE, Rivals(2)))
+        self.ask(OF_SINGLE, BadSingle, (*NO_PROGRAMS, LOOP, Rivals(2)))
+
+    def test_no_rivals(self):
+        self.ask(OF_RIVALS, BadRivals, (*NO_PROGRAMS, LOOP, SINGLE, ((0, 1),), 3))
+
+    def test_the_second_program(self):
+        for ask in (judge_both, tell_alike, Same([]).shows, Parted((), []).shows):
+            for program in NO_PROGRAMS:
+                self.assertIsNone(self.refused(BadProgram, ask, LOOP, program).part)
 
 
 class UnchangedTest(RoomTest):
@@ -198,6 +260,12 @@ class UnchangedTest(RoomTest):
             colour(single)
             to_single(plain)
             place_joins(plain, 0)
+            by_chains(program)
+            judge_edge(LOOP, (0, 0), 1)
+            number_all(single)
+            to_plain(single, colour(single).rooms)
+            rebuilt(plain)
+            Desk(plain).take_row(0, 0)
             self.assertEqual((program.many, program.handed, program.blocks, program.span), before)
 
     def test_rivals_are_not_changed(self):
