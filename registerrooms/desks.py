@@ -5,7 +5,7 @@ from registerrooms.errors import BadEdit, NothingDone
 from registerrooms.held import most_held
 from registerrooms.making import to_single
 from registerrooms.programs import Program, check_plain
-from registerrooms.shapes import check_block, is_integer
+from registerrooms.shapes import is_integer
 
 
 class Layer:
@@ -44,21 +44,18 @@ class Desk:
 
     def put_row(self, block, at, row):
         """Put a row into a block ahead of the one with an index, or behind all; the program behind it."""
-        check_block(self.now.blocks, block)
         rows = self.now.rows(block)
         check_index(at, len(rows) + 1)
         return self.give_block(block, (rows[:at] + (row,) + rows[at:], self.now.end(block)), ("put", block, at, row))
 
     def take_row(self, block, at):
         """Take the row with an index out of a block; the program behind it."""
-        check_block(self.now.blocks, block)
         rows = self.now.rows(block)
         check_index(at, len(rows))
         return self.give_block(block, (rows[:at] + rows[at + 1:], self.now.end(block)), ("take", block, at))
 
     def turn_end(self, block, end):
         """Give a block another end; the program behind it."""
-        check_block(self.now.blocks, block)
         return self.give_block(block, (self.now.rows(block), end), ("turn", block, end))
 
     def give_block(self, block, parts, change):

@@ -283,6 +283,20 @@ class BackTest(RoomTest):
                 plain = self.ask_alike(single, rooms)
                 self.assertEqual((plain.many, has_spare(single, rooms)), (max(rooms) + 1, False))
 
+    def test_rings_of_which_something_else_reads(self):
+        # Rooms 0 and 1 change places, and what one of them holds is copied to others, too: no move more is needed.
+        for sources, number in (((1, 0, 0), 3), ((1, 0, 1), 3), ((1, 0, 2), 3), ((1, 2, 0), 4), ((1, 0, 0, 2), 4),
+                                ((1, 0, 0, 0), 4), ((1, 0, 3, 2), 6), ((1, 0, 2, 2), 4), ((1, 2, 0, 1), 4), ((0, 0, 0), 2),
+                                ((1, 0, 3, 0), 4), ((2, 2, 1, 1), 4)):
+            many = len(sources)
+            joins = tuple((many + at, (source,)) for at, source in enumerate(sources))
+            rows = tuple(("put", at, at) for at in range(many))
+            told = tuple(("tell", many + at) for at in range(many))
+            single = Single(2 * many, (), (((), rows, ("go", 1)), (joins, told, STOP)))
+            for rooms in (tuple(range(many)) * 2, tuple(range(1, many + 1)) * 2):
+                plain = self.ask_alike(single, rooms)
+                self.assertEqual(len(plain.rows(0)), many + number, sources)
+
     def test_blocks_of_their_own(self):
         plain = self.ask_alike(TWICE, (0, 1, 2, 1))
         self.assertEqual((plain.end(0), plain.blocks[2:]), (("part", 0, 1, 2), (((("move", 1, 2),), ("go", 1)),)))

@@ -282,6 +282,21 @@ class PapersTest(RoomTest):
         self.ask(Free(None, (0,)), True, COUNT, (0, 0), 1)
         self.ask(Free(None, ()), False, COUNT, (0, 0), 1)
 
+    def test_negative_blocks(self):
+        # Negative numbers are no blocks, and do not stand for the last ones.
+        program = Program(1, (((), ("part", 0, 1, 2)), ((), STOP), ((), ("go", 1))))
+        self.ask(Free(None, (0, 2)), True, program, (0, 1), 1)
+        self.ask(Free(None, (0, 2, -1)), False, program, (0, 1), 1)
+        self.ask(Free(None, (0, -1)), False, program, (0, 1), 1)
+        self.ask(Governs((), (0, 1)), True, program, (0, 1), 2)
+        self.ask(Governs((), (0, -2)), False, program, (0, 1), 2)
+        self.ask(Free((2, 1), None), True, program, (0, 1), 0)
+        self.ask(Free((-1, 1), None), False, program, (0, 1), 0)
+        for edge in ((-1, 0), (2, -1), (-3, 0), (0, -1)):
+            self.refused(BadEdge, judge_edge, program, edge, 0)
+        for block in (-1, -3):
+            self.refused(BadBlock, judge_edge, program, (0, 0), block)
+
     def test_all_small_papers(self):
         for program in (COUNT, TWICE, FORK):
             blocks = range(len(program))

@@ -244,6 +244,12 @@ class TreesTest(RoomTest):
                 (("cases", 0, 1, ("clash", False, 1), ("crowd", (0, 1))), False),
                 (("clash", 0, 0), False), (("clash", 0, 1), False), (("clash", 0, 2), False)):
             self.assertIs(refuses(path, 1, tree), goal, tree)
+        # Negative numbers are no variables, and do not stand for the last ones.
+        two, crowd = full(2), ("crowd", (0, 1))
+        for one, other, goal in ((0, 1, True), (0, -1, False), (-1, 0, False), (-2, 1, False), (-1, -1, False)):
+            self.assertIs(refuses(two, 1, ("cases", 0, 1, ("clash", one, other), crowd)), goal)
+            self.assertIs(refuses(two, 1, ("cases", one, other, ("clash", 0, 1), crowd)), goal)
+            self.assertIs(refuses(two, 1, ("crowd", (one, other))), goal)
 
     def test_clashes_of_what_was_chosen_to_be_apart(self):
         none = Rivals(3)

@@ -181,6 +181,15 @@ class PapersTest(RoomTest):
                 ((0, 1), (2, 4)), ((0, 1, 2),)):
             self.ask(Shared(lot, found.rooms, found.against), False)
 
+    def test_pairs_without_a_worth(self):
+        worths = {(0, 1): 4, (2, 3): 1}
+        found = share(PATH, worths, 2)
+        self.assertEqual((found.lot, found.rooms, found.against), (((0, 1), (2, 3)), (0, 0, 1, 1), {}))
+        self.ask(Shared(((0, 1),), (0, 0, 1, 1), {}), True, worths={(0, 1): 4})
+        self.ask(Shared(((0, 1), (2, 3)), (0, 0, 1, 1), {}), False, worths={(0, 1): 4})
+        self.ask(Shared(((2, 3),), (0, 0, 1, 1), {}), False, worths={(0, 1): 4})
+        self.ask(Shared((), (0, 0, 1, 1), {((2, 3),): ("clash", 0, 0)}), False, worths={(0, 1): 4})
+
     def test_each_lot_with_what_is_worth_more(self):
         for limit in (2, 3, 4):
             trees = {lot: tree for lot, tree in share(PATH, CHAIN, limit).against.items()}

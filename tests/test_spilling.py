@@ -333,7 +333,8 @@ class PapersTest(RoomTest):
             for place in (
                     (0, (0,)), (1, ()), (1, (1,)), (1, (0, 1)), (2, (0,)), (2, (1, 0)), (2, (1, 1)), (2, (0, 1, 2)),
                     (2, (1, 5)), (2, (1, 2)), (-1, ()), (len(row) + 1, (1,)), (len(row) + 1, ()), (1, (6,)), (1, (-1,)),
-                    (1, (0, 0)), (2, (1, 6)), (0, (0, 1))):
+                    (1, (0, 0)), (2, (1, 6)), (0, (0, 1)), (3, (0, 1, 2)), (3, (1, 2, 0)), (2, (0, 1, 1)), (0,), (0, (), ()),
+                    (), 0, None, "0", (0, 0), (None, ()), ((), 0)):
                 for floor in (0, -99):
                     self.ask(Loads(found.number, found.keeping, {**found.floors, place: floor}), False, row, limit)
         found = fewest_loads(ROW, 2)
